@@ -1,0 +1,1 @@
+"""What a basket costs: see basketcost.baskets."""

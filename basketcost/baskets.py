@@ -1,0 +1,43 @@
+"""The interface: a list of calls in, a list of their answers out."""
+
+from basketcost.shop import Shop
+
+BEGIN = 0
+ARTICLE = 1
+BUNDLE = 2
+GIFT = 3
+DROP = 4
+PUT = 5
+
+# At each call's number, how many whole numbers follow it.
+SIZES = (0, 4, 3, 3, 1, 3, 3)
+
+
+def answers(calls):
+    shop = Shop()
+    told = []
+    at = 0
+    while at < len(calls):
+        behind = at + 1 + SIZES[calls[at]]
+        answer = answer_of(shop, calls[at], calls[at + 1:behind])
+        told.append(len(answer))
+        told.extend(answer)
+        at = behind
+    return told
+
+
+def answer_of(shop, call, given):
+    if call == BEGIN:
+        return [shop.begin()]
+    if call == ARTICLE:
+        return [shop.article(given[0], given[1], given[2], given[3])]
+    if call == BUNDLE:
+        return [shop.bundle(given[0], given[1], given[2])]
+    if call == GIFT:
+        return [shop.gift(given[0], given[1], given[2])]
+    if call == DROP:
+        return [shop.drop(given[0])]
+    if call == PUT:
+        return [shop.put(given[0], given[1], given[2])]
+    # SIZES has no other number left: this is take, 6.
+    return [shop.take(given[0], given[1], given[2])]
