@@ -43,6 +43,34 @@ def take(basket, number, many):
     return [6, basket, number, many]
 
 
+def sum_of(basket):
+    return [7, basket]
+
+
+def group(basket, k):
+    return [8, basket, k]
+
+
+def share(basket, number):
+    return [9, basket, number]
+
+
+def tax(basket, rate):
+    return [10, basket, rate]
+
+
+def pay(basket):
+    return [11, basket]
+
+
+def back(receipt, number, many):
+    return [12, receipt, number, many]
+
+
+def left(receipt):
+    return [13, receipt]
+
+
 def flat(calls):
     return [number for call in calls for number in call]
 
@@ -60,13 +88,35 @@ def split(told):
     return parts
 
 
-def ask(*calls):
-    """The first number of each call's answer, begin ahead of them not told."""
+def tell(*calls):
+    """Each call's whole answer, begin ahead of them not told."""
     parts = split(answers(Unchanging(flat([begin()] + list(calls)))))
     if parts[0] != [0] or len(parts) != len(calls) + 1:
         raise AssertionError(f"not one answer a call: {parts!r}")
-    return [part[0] for part in parts[1:]]
+    return parts[1:]
+
+
+def ask(*calls):
+    """The first number of each call's answer."""
+    return [part[0] for part in tell(*calls)]
 
 
 def last(*calls):
     return ask(*calls)[-1]
+
+
+def groups(*calls, basket=0):
+    """All groups of a basket after these calls."""
+    told = tell(*calls, *[group(basket, k) for k in range(65)])[len(calls):]
+    found = told[:told.index([0])]
+    if any(part != [0] for part in told[len(found):]):
+        raise AssertionError(f"a group behind the last: {told!r}")
+    return found
+
+
+def basket_of(*prices, sort=0, first=0):
+    """Calls by which basket 0 has a thing for each price, of articles from the first on."""
+    calls = []
+    for number, price in enumerate(prices, start=first):
+        calls += [article(number, price, sort), put(0, number, 1)]
+    return calls

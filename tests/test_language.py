@@ -1,6 +1,7 @@
 """What can be seen, file by file, of the part of Python that the package keeps to."""
 
 import ast
+import builtins
 import pathlib
 import re
 import unittest
@@ -79,3 +80,50 @@ class LanguageTest(unittest.TestCase):
                     self.assertIn(node.func.id, BUILTINS | own, f"{path}:{node.lineno}")
                 if isinstance(node.func, ast.Attribute):
                     self.assertIn(node.func.attr, METHODS | own, f"{path}:{node.lineno}")
+
+    def test_no_local_is_called_like_an_import_or_one_of_pythons_own(self):
+        for path in package_files():
+            taken = set(dir(builtins)) | {alias.name for node in nodes_of(path, ast.ImportFrom) for alias in node.names}
+            taken |= {node.name for node in nodes_of(path, ast.ClassDef)}
+            local = {node.arg for node in nodes_of(path, ast.arg)}
+            local |= {node.id for node in nodes_of(path, ast.Name) if isinstance(node.ctx, ast.Store)}
+            self.assertEqual(local & taken, set(), path)
+
+    def test_no_name_is_a_method_and_a_value(self):
+        methods, values = set(), set()
+        for path in package_files():
+            for node in nodes_of(path, ast.ClassDef):
+                methods |= {part.name for part in node.body if isinstance(part, ast.FunctionDef)}
+            values |= {node.attr for node in nodes_of(path, ast.Attribute) if isinstance(node.ctx, ast.Store)}
+        self.assertEqual(methods & values, set())
+        pythons = {name for kind in (int, str, list, tuple, dict, set, bytes) for name in dir(kind)} - {"__init__"}
+        self.assertEqual((methods | values) & pythons, set())
+
+    def test_files_draw_from_the_file_that_defines_the_name_and_not_from_one_another(self):
+        drawn = {}
+        for path in package_files():
+            drawn[path.stem] = {node.module.split(".")[1] for node in nodes_of(path, ast.ImportFrom)}
+            for node in nodes_of(path, ast.ImportFrom):
+                there = ast.parse((PACKAGE / (node.module.split(".")[1] + ".py")).read_text()).body
+                names = {part.name for part in there if isinstance(part, (ast.FunctionDef, ast.ClassDef))}
+                names |= {part.targets[0].id for part in there if isinstance(part, ast.Assign)}
+                self.assertLessEqual({alias.name for alias in node.names}, names, path)
+        while drawn:
+            free = [name for name in drawn if not drawn[name] & set(drawn)]
+            self.assertTrue(free, drawn)
+            for name in free:
+                drawn.pop(name)
+
+    def test_what_is_walked_at_once_is_not_kept(self):
+        for path in package_files():
+            tree = ast.parse(path.read_text())
+            walked = [node.iter for node in ast.walk(tree) if isinstance(node, (ast.For, ast.comprehension))]
+            for node in ast.walk(tree):
+                if isinstance(node, ast.Call) and node.args and isinstance(node.func, ast.Name):
+                    if node.func.id in ("list", "tuple", "dict", "sorted", "sum", "any", "all", "enumerate", "zip"):
+                        walked.append(node.args[0])
+            for node in ast.walk(tree):
+                if isinstance(node, ast.Call):
+                    name = node.func.id if isinstance(node.func, ast.Name) else node.func.attr
+                    if name in ("zip", "enumerate", "reversed", "range", "items", "keys", "values"):
+                        self.assertIn(node, walked, f"{path}:{node.lineno}")
